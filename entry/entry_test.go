@@ -227,6 +227,14 @@ func TestP502CheckWrong(t *testing.T) {
 		"Full and a write":  func(e *entry.Entry) { e.Res.Code = part.Full },
 		"Read and a write":  func(e *entry.Entry) { e.Parts[0] = part.Part{Key: "a"} },
 		"the second's key":  func(e *entry.Entry) { e.Writes[0].Key = e.Parts[1].Key },
+		"a gone value":      func(e *entry.Entry) { e.Writes[0].Has = false },
+		"a gone byte":       func(e *entry.Entry) { e.Writes[0] = store.Write{Key: "a", Value: "\x00"} },
+		"a long gone value": func(e *entry.Entry) { e.Writes[0] = store.Write{Key: "a", Value: longValue} },
+		"an Erase's value":  func(e *entry.Entry) { e.Parts[0], e.Writes[0].Has = part.Part{Kind: part.Erase, Key: "a"}, false },
+		"an Add's value":    func(e *entry.Entry) { e.Parts[0].Kind, e.Writes[0].Has = part.Add, false },
+		"a Write's value": func(e *entry.Entry) {
+			e.Parts[0], e.Writes[0].Has = part.Part{Kind: part.Write, Key: "a", Value: "3"}, false
+		},
 		"a Read of no part": func(e *entry.Entry) { e.Parts, e.Writes = nil, nil },
 	}
 	for name, change := range changes {
